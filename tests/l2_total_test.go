@@ -53,6 +53,8 @@ func isNothing(result any) bool {
 		return len(x) == 0
 	case [][2]int:
 		return len(x) == 0
+	case [2][][2]int:
+		return len(x[0]) == 0 && len(x[1]) == 0
 	case impl.Tree:
 		return len(x.Parents) == 0 && len(x.Weights) == 0
 	}
@@ -71,12 +73,14 @@ func oddLists() [][]int {
 	return lists
 }
 
-// A panic in a call fails the test, as does a call that does not return.
-func TestPromise13TreesAndListsOfAllKinds(t *testing.T) {
+// checkCalls makes calls with Trees, lists and numbers of all kinds. A panic in a call fails the
+// test, as does a call that does not return.
+func checkCalls(t *testing.T, calls []treeCall) {
+	t.Helper()
 	bad := badTrees()
 	trees := append(slices.Clone(bad), limitTrees()...)
 	trees = append(trees, impl.Tree{Parents: []int{-1, 0, 0, 1, 1}, Weights: []int{0, 0, 2, 1, 1}})
-	for _, call := range treeCalls() {
+	for _, call := range calls {
 		for i, tree := range trees {
 			for _, a := range oddLists() {
 				for _, n := range oddNumbers() {
@@ -91,6 +95,10 @@ func TestPromise13TreesAndListsOfAllKinds(t *testing.T) {
 			}
 		}
 	}
+}
+
+func TestPromise13TreesAndListsOfAllKinds(t *testing.T) {
+	checkCalls(t, treeCalls())
 }
 
 func TestPromise13PairsOfNumbers(t *testing.T) {
@@ -176,9 +184,10 @@ func overwrite(result any) {
 	case []int:
 		fill(x)
 	case [][2]int:
-		for i := range x[:cap(x)] {
-			x[:cap(x)][i] = [2]int{-5, -5}
-		}
+		fillPairs(x)
+	case [2][][2]int:
+		fillPairs(x[0])
+		fillPairs(x[1])
 	case impl.Tree:
 		fill(x.Parents)
 		fill(x.Weights)
@@ -189,6 +198,13 @@ func fill(list []int) {
 	list = list[:cap(list)]
 	for i := range list {
 		list[i] = -5
+	}
+}
+
+func fillPairs(list [][2]int) {
+	list = list[:cap(list)]
+	for i := range list {
+		list[i] = [2]int{-5, -5}
 	}
 }
 
