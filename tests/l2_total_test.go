@@ -51,6 +51,8 @@ func isNothing(result any) bool {
 	switch x := result.(type) {
 	case []int:
 		return len(x) == 0
+	case [][]int:
+		return len(x) == 0
 	case [][2]int:
 		return len(x) == 0
 	case [2][][2]int:
@@ -183,6 +185,11 @@ func overwrite(result any) {
 	switch x := result.(type) {
 	case []int:
 		fill(x)
+	case [][]int:
+		for _, list := range x {
+			fill(list)
+		}
+		clear(x[:cap(x)])
 	case [][2]int:
 		fillPairs(x)
 	case [2][][2]int:
