@@ -59,6 +59,8 @@ func isNothing(result any) bool {
 		return len(x[0]) == 0 && len(x[1]) == 0
 	case impl.Tree:
 		return len(x.Parents) == 0 && len(x.Weights) == 0
+	case impl.Market:
+		return isNothing(x.Tree) && len(x.Prices) == 0
 	}
 	return reflect.ValueOf(result).IsZero()
 }
