@@ -61,6 +61,8 @@ func isNothing(result any) bool {
 		return len(x.Parents) == 0 && len(x.Weights) == 0
 	case impl.Market:
 		return isNothing(x.Tree) && len(x.Prices) == 0
+	case impl.Arm:
+		return isNothing(x.Tree) && len(x.Fees) == 0
 	}
 	return reflect.ValueOf(result).IsZero()
 }
@@ -200,6 +202,9 @@ func overwrite(result any) {
 	case impl.Tree:
 		fill(x.Parents)
 		fill(x.Weights)
+	case impl.Arm:
+		overwrite(x.Tree)
+		fill(x.Fees)
 	}
 }
 

@@ -77,6 +77,8 @@ func isInBounds(result any) bool {
 	switch x := result.(type) {
 	case [2]int:
 		return impl.IsFraction(x)
+	case [2][2]int:
+		return impl.IsFraction(x[0]) && impl.IsFraction(x[1])
 	case [][2]int:
 		return !slices.ContainsFunc(x, func(f [2]int) bool { return !impl.IsFraction(f) })
 	}
